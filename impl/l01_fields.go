@@ -137,7 +137,7 @@ func InverseIn(f Field, a int64) (int64, int64) {
 	if a == 0 {
 		return 0, ErrState
 	}
-	return c.first(func(b element) bool { return c.product(element(a), b) == 1 })
+	return int64(c.quotient(1, element(a))), OK
 }
 
 // SquareTimes returns what an element becomes by squaring.
@@ -155,8 +155,7 @@ func RootTimes(f Field, a, k int64) (int64, int64) {
 	if code != OK {
 		return 0, code
 	}
-	// As many squarings as the degree change nothing, so some more undo those that were made.
-	return int64(c.squared(element(a), c.degree-k%c.degree)), OK
+	return int64(c.root(element(a), k)), OK
 }
 
 // OrderIn returns the order of an element.
@@ -367,10 +366,8 @@ func calculatorFor(f Field, numbers ...int64) (*calculator, int64) {
 		return nil, ErrInvalid
 	}
 	c := &calculator{degree: f.Degree}
-	for _, a := range numbers {
-		if !c.has(a) {
-			return nil, ErrRange
-		}
+	if !c.hasAll(numbers) {
+		return nil, ErrRange
 	}
 	c.products.fill(c.size(), func(a, b element) element {
 		return element(polyRest(polyProduct(int64(a), int64(b)), f.Poly))
@@ -414,6 +411,16 @@ func (c *calculator) has(a int64) bool {
 	return 0 <= a && a < c.size()
 }
 
+// hasAll reports whether all numbers of a list are elements.
+func (c *calculator) hasAll(list []int64) bool {
+	for _, a := range list {
+		if !c.has(a) {
+			return false
+		}
+	}
+	return true
+}
+
 // elements returns all elements, in ascending order.
 func (c *calculator) elements() iter.Seq[element] {
 	return func(yield func(element) bool) {
@@ -440,12 +447,24 @@ func (c *calculator) product(a, b element) element {
 	return c.products[a][b]
 }
 
+// quotient returns the element whose product with b, which is not 0, is a.
+func (c *calculator) quotient(a, b element) element {
+	q, _ := c.first(func(q element) bool { return c.product(q, b) == a })
+	return element(q)
+}
+
 // squared returns what an element becomes by being squared k times.
 func (c *calculator) squared(a element, k int64) element {
 	for range k {
 		a = c.product(a, a)
 	}
 	return a
+}
+
+// root returns what becomes an element by being squared k times.
+func (c *calculator) root(a element, k int64) element {
+	// As many squarings as the degree change nothing, so some more undo those that were made.
+	return c.squared(a, c.degree-k%c.degree)
 }
 
 // order returns the order of an element other than 0.
@@ -510,12 +529,7 @@ func (c *calculator) coordinates(list []int64) ([maxElements]int64, bool) {
 		return numbers, false
 	}
 	for number := range c.size() {
-		sum := element(0)
-		for i, a := range list {
-			if number>>i&1 == 1 {
-				sum = sum.plus(element(a))
-			}
-		}
+		sum := chosenSum(list, number)
 		if found[sum] {
 			return numbers, false
 		}
@@ -523,4 +537,15 @@ func (c *calculator) coordinates(list []int64) ([maxElements]int64, bool) {
 		numbers[sum] = number
 	}
 	return numbers, true
+}
+
+// chosenSum returns the sum of those elements of a list whose indices are bits of a number.
+func chosenSum(list []int64, number int64) element {
+	sum := element(0)
+	for i, a := range list {
+		if number>>i&1 == 1 {
+			sum = sum.plus(element(a))
+		}
+	}
+	return sum
 }
