@@ -401,6 +401,24 @@ func (a element) plus(b element) element {
 	return a ^ b
 }
 
+// elementsOf returns the elements that numbers stand for, which have to be elements.
+func elementsOf(list []int64) []element {
+	elements := make([]element, len(list))
+	for i, a := range list {
+		elements[i] = element(a)
+	}
+	return elements
+}
+
+// numbersOf returns the numbers that stand for elements, in new memory.
+func numbersOf(elements []element) []int64 {
+	list := make([]int64, len(elements))
+	for i, a := range elements {
+		list[i] = int64(a)
+	}
+	return list
+}
+
 // size returns the number of elements.
 func (c *calculator) size() int64 {
 	return 1 << c.degree
@@ -445,6 +463,15 @@ func (c *calculator) first(passes func(element) bool) (int64, int64) {
 // product returns the product of two elements.
 func (c *calculator) product(a, b element) element {
 	return c.products[a][b]
+}
+
+// multiple returns the elements of a list multiplied with an element: zeros, if this is 0.
+func (c *calculator) multiple(a element, list []element) []element {
+	products := make([]element, len(list))
+	for i, b := range list {
+		products[i] = c.product(a, b)
+	}
+	return products
 }
 
 // quotient returns the element whose product with b, which is not 0, is a.
