@@ -381,10 +381,15 @@ func calculatorTimes(f Field, a, n int64) (*calculator, int64) {
 	if code != OK {
 		return nil, code
 	}
-	if n < 0 || n > maxTimes {
+	if !isTimes(n) {
 		return nil, ErrRange
 	}
 	return c, OK
+}
+
+// isTimes reports whether something can be done so many times.
+func isTimes(n int64) bool {
+	return 0 <= n && n <= maxTimes
 }
 
 // fill sets the products of as many elements as size says.
