@@ -164,20 +164,27 @@ func codeWithLeads(f impl.Field, length, leads int64, fill func() int64) impl.Ra
 	return c
 }
 
+// codesWithLeads are all codes with a length whose leads are the bits of a number.
+func codesWithLeads(f impl.Field, length, leads int64) []impl.RankCode {
+	var list []impl.RankCode
+	places := int64(0)
+	codeWithLeads(f, length, leads, func() int64 { places++; return 0 })
+	listsOf(f, places, func(elements []int64) {
+		rest := elements
+		list = append(list, codeWithLeads(f, length, leads, func() int64 {
+			a := rest[0]
+			rest = rest[1:]
+			return a
+		}))
+	})
+	return list
+}
+
 // allCodes are all codes with a length.
 func allCodes(f impl.Field, length int64) []impl.RankCode {
 	var list []impl.RankCode
 	for leads := range int64(1) << length {
-		places := int64(0)
-		codeWithLeads(f, length, leads, func() int64 { places++; return 0 })
-		listsOf(f, places, func(elements []int64) {
-			rest := elements
-			list = append(list, codeWithLeads(f, length, leads, func() int64 {
-				a := rest[0]
-				rest = rest[1:]
-				return a
-			}))
-		})
+		list = append(list, codesWithLeads(f, length, leads)...)
 	}
 	return list
 }

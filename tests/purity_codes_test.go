@@ -195,11 +195,7 @@ func TestListsOfCodesAreNewMemory(t *testing.T) {
 			before := fmt.Sprint(c, message, w)
 			text := codeAnswers(c, c, message, w, 1, 1)
 			lists := codeResults(t, c, message, w)
-			for i, list := range lists {
-				others := fmt.Sprint(lists[i+1:])
-				spoil(list)
-				is(t, fmt.Sprint(c, " results behind the result ", i), others, fmt.Sprint(lists[i+1:]))
-			}
+			spoilEach(t, fmt.Sprint(c), lists)
 			is(t, fmt.Sprint("arguments ", c), before, fmt.Sprint(c, message, w))
 			is(t, fmt.Sprint("results behind overwritten ones ", c), text, codeAnswers(c, c, message, w, 1, 1))
 		}

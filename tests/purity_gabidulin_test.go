@@ -196,11 +196,7 @@ func TestListsOfGabidulinsAreNewMemory(t *testing.T) {
 			before := fmt.Sprint(g, message, w, columns, rows)
 			text := gabidulinAnswers(g, g, message, w, columns, 0)
 			lists := gabidulinResults(t, g, message, w, columns, rows)
-			for i, list := range lists {
-				others := fmt.Sprint(lists[i+1:])
-				spoil(list)
-				is(t, fmt.Sprint(g, " results behind the result ", i), others, fmt.Sprint(lists[i+1:]))
-			}
+			spoilEach(t, fmt.Sprint(g), lists)
 			is(t, fmt.Sprint("arguments ", g), before, fmt.Sprint(g, message, w, columns, rows))
 			is(t, fmt.Sprint("results behind overwritten ones ", g), text, gabidulinAnswers(g, g, message, w, columns, 0))
 		}

@@ -144,11 +144,7 @@ func TestLinearsOfResultsAreNewMemory(t *testing.T) {
 		before := fmt.Sprint(p, q, basis, a)
 		text := linearAnswers(f, p, q, basis, 1, a)
 		lists := linearResults(t, f, p, q, basis, a)
-		for i, list := range lists {
-			others := fmt.Sprint(lists[i+1:])
-			spoil(list)
-			is(t, fmt.Sprint(f, " results behind the result ", i), others, fmt.Sprint(lists[i+1:]))
-		}
+		spoilEach(t, fmt.Sprint(f), lists)
 		is(t, fmt.Sprint(f, " arguments"), before, fmt.Sprint(p, q, basis, a))
 		is(t, fmt.Sprint(f, " results behind overwritten ones"), text, linearAnswers(f, p, q, basis, 1, a))
 	}

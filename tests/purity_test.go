@@ -100,6 +100,16 @@ func spoil(list []int64) {
 	}
 }
 
+// spoilEach overwrites one list after the other, and asks whether those behind it stay as they are.
+func spoilEach(t *testing.T, name string, lists [][]int64) {
+	t.Helper()
+	for i, list := range lists {
+		others := fmt.Sprint(lists[i+1:])
+		spoil(list)
+		is(t, fmt.Sprint(name, " results behind the result ", i), others, fmt.Sprint(lists[i+1:]))
+	}
+}
+
 func TestResultsAreNewMemory(t *testing.T) {
 	for _, f := range allFields() {
 		basis := someBases(f)[0]
